@@ -1,0 +1,1 @@
+"""Spotsums: games of spots and moves, played side by side."""
