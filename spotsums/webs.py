@@ -1,6 +1,6 @@
 """Webs: lists of spots, each the list of the spots to which a move leads from it."""
 
-from spotsums.errors import NoWeb, TooMany
+from spotsums.errors import NoWeb, Ringed, TooMany
 
 MOST_SPOTS = 200
 
@@ -20,10 +20,15 @@ def _is_spot(thing, many):
     if type(thing) is not list:
         return False
     for move in thing:
-        # The exact class is asked for, as True and False are no numbers.
-        if type(move) is not int or not 0 <= move < many:
+        if not is_place(move, many):
             return False
     return len(set(thing)) == len(thing)
+
+
+def is_place(thing, many):
+    """Whether the thing, which may be anything, is one of this many places, counted from 0."""
+    # The exact class is asked for, as True and False are no numbers.
+    return type(thing) is int and 0 <= thing < many
 
 
 def check_web(thing):
@@ -32,11 +37,17 @@ def check_web(thing):
         raise NoWeb("a web is a list of 1 to 200 spots, each a list of unlike spots of the web")
 
 
+def check_game(thing):
+    """Refuse with NoWeb what is no web, then with Ringed a web that has a ring."""
+    if ring_in(thing) is not None:
+        raise Ringed("the web has a ring, so that play in it need not end")
+
+
 def ring_in(web):
     """A ring of the web as a list of spots, or None where there is none."""
     check_web(web)
     ended = [False] * len(web)
-    for spot in _ended_spots(web):
+    for spot in ended_spots(web):
         ended[spot] = True
     if False not in ended:
         return None
@@ -51,7 +62,7 @@ def ring_in(web):
     return walk[walk.index(spot):]
 
 
-def _ended_spots(web):
+def ended_spots(web):
     """The spots from which all play ends, each behind those to which its moves lead."""
     sources = _sources(web)
     waiting = [len(moves) for moves in web]

@@ -3,51 +3,10 @@
 import copy
 import itertools
 import random
-import unittest
 
-from spotsums.errors import GameError, NoWeb, TooMany
+from spotsums.errors import NoWeb, TooMany
 from spotsums.webs import heap_web, is_web, joined_webs, paired_web, ring_in
-
-
-def holding_itself():
-    """A list that stands in itself."""
-    thing = []
-    thing.append(thing)
-    return thing
-
-
-class Pretender:
-    """An object that says it is a list, and fails at whatever is done with it."""
-
-    __class__ = list
-
-    def __len__(self):
-        raise RuntimeError("asked")
-
-    __iter__ = __eq__ = __hash__ = __bool__ = __getitem__ = __len__
-
-
-NO_LISTS = (None, True, False, 0, 1, 1.5, "", "web", b"web", (), ([],), ((),), {}, {0: []},
-            set(), frozenset(), range(1), list, object(), Pretender(), iter([[]]), is_web)
-
-NO_WEBS = NO_LISTS + (
-    [],
-    [[] for _ in range(201)],
-    [[] for _ in range(1000)],
-    # spots that are no lists
-    [None], [0], [True], [""], ["0"], [()], [(0,)], [{}], [{0: 0}], [set()], [range(1)], [Pretender()],
-    [[], None], [[], (0,)], [[1], [], 0],
-    # moves that are no numbers
-    [[True], []], [[False]], [[], [False]], [[], [0, True]], [[None]], [["0"]], [[[]]], [[[0]]], [[(0,)]],
-    [[0.0]], [[{}]], [[0, None]], [[1, "0"], []], [[Pretender()]], holding_itself(),
-    # moves to no spot of the web
-    [[-1]], [[], [0, -1]], [[-2], []], [[1]], [[], [2]], [[0, 2], []], [[3], [], []], [[10 ** 30]], [[-10 ** 30]],
-    [[200]] + [[] for _ in range(199)], [[] for _ in range(199)] + [[0, 200]],
-    # moves that stand twice
-    [[0, 0]], [[1, 1], []], [[], [0, 1, 0]], [[2, 1, 2], [], []], [[], [], [0, 1, 1]], [[0, 1, 2, 0], [], []],
-    [[1, 2, 3, 2], [], [], []], [[0, 1, 2, 3, 3], [], [], []], [[0], [0, 0]],
-    [[] for _ in range(199)] + [list(range(200)) + [0]],
-)
+from tests.samples import NO_WEBS, AskedTest, all_play_ends, lists_in, spoil, told_lists
 
 WEBS = (
     [[]],
@@ -67,70 +26,6 @@ WEBS = (
     [[]] * 3,
     [[2]] * 3,
 )
-
-
-def told_lists(thing):
-    """The list told and the lists within it."""
-    return [thing] + [item for item in thing if isinstance(item, list)]
-
-
-def spoil(thing):
-    """Change the list and each list within it."""
-    for part in told_lists(thing):
-        part.append("spoilt")
-        part.reverse()
-
-
-class AskedTest(unittest.TestCase):
-    """What holds for each function of the file, in the words of point 1."""
-
-    def check_own(self, ask, *handed):
-        """What is told is the asker's own, and what is handed in stays as it is."""
-        before = copy.deepcopy(handed)
-        first = ask(*handed)
-        self.assertEqual(handed, before)
-        wanted = copy.deepcopy(first)
-        again = ask(*handed)
-        self.assertEqual(again, wanted)
-        parts = told_lists(first) + told_lists(again)
-        for thing in handed:
-            if isinstance(thing, list):
-                parts = parts + unlike(told_lists(thing))
-        for one, other in itertools.combinations(parts, 2):
-            if one is other:
-                self.fail("a told list stands twice")
-        spoil(again)
-        self.assertEqual(first, wanted)
-        self.assertEqual(handed, before)
-        self.assertEqual(ask(*handed), wanted)
-        for thing in handed:
-            if isinstance(thing, list):
-                spoil_once(thing)
-        self.assertEqual(first, wanted)
-        self.assertEqual(ask(*copy.deepcopy(before)), wanted)
-
-    def check_unchanged(self, ask, *handed):
-        """What is handed in stays as it is, told or refused."""
-        before = copy.deepcopy(handed)
-        try:
-            ask(*handed)
-        except GameError:
-            pass
-        self.assertEqual(handed, before)
-
-
-def unlike(parts):
-    """The lists among these, each once, as a web may hold one list twice."""
-    found = []
-    for part in parts:
-        if not any(part is other for other in found):
-            found.append(part)
-    return found
-
-
-def spoil_once(thing):
-    for part in unlike(told_lists(thing)):
-        part.append("spoilt")
 
 
 class IsWebTest(AskedTest):
@@ -276,14 +171,6 @@ class RingInTest(AskedTest):
                 self.check_unchanged(ring_in, web)
 
 
-def all_play_ends(web):
-    """Whether no play in the web goes on for as many moves as it has spots."""
-    reached = set(range(len(web)))
-    for _ in web:
-        reached = {move for spot in reached for move in web[spot]}
-    return not reached
-
-
 class HeapWebTest(AskedTest):
     def test_moves_stand_in_the_order_of_the_takes(self):
         for most, takes, web in (
@@ -390,10 +277,8 @@ class TwoWebsTest(AskedTest):
                     before = copy.deepcopy(web)
                     told = ask(web, web)
                     self.assertEqual(told, ask(web, copy.deepcopy(web)))
-                    parts = told_lists(told)
-                    self.assertEqual(len(unlike(parts + unlike(told_lists(web)))),
-                                     len(parts) + len(unlike(told_lists(web))))
-                    spoil(told)
+                    self.check_unlike(told_lists(told) + lists_in([web]))
+                    spoil(told_lists(told))
                     self.assertEqual(web, before)
 
 
@@ -481,7 +366,3 @@ class PairedWebTest(AskedTest):
             with self.subTest(many=many, more=more):
                 with self.assertRaises(TooMany):
                     paired_web([[] for _ in range(many)], [[] for _ in range(more)])
-
-
-if __name__ == "__main__":
-    unittest.main()
